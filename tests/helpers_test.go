@@ -20,6 +20,10 @@ func one[A any](a A, code int64) result { return result{[]any{a}, code} }
 
 func two[A, B any](a A, b B, code int64) result { return result{[]any{a, b}, code} }
 
+func four[A, B, C, D any](a A, b B, c C, d D, code int64) result {
+	return result{[]any{a, b, c, d}, code}
+}
+
 // show prints a nil list as an empty one, which is the same value.
 func show(values []any) string { return fmt.Sprint(values) }
 
@@ -71,9 +75,11 @@ func noSizes() []int64 {
 	return list(-1, impl.MaxSet+1, math.MinInt64, math.MaxInt64)
 }
 
-// guard hands out lists with spare capacity and knows what was in and behind them.
+// guard hands out lists, and lists of lists, with spare capacity and knows what was in and behind
+// them.
 type guard struct {
-	now, before [][]int64
+	now, before         [][]int64
+	rowsNow, rowsBefore [][][]int64
 }
 
 func (g *guard) list(values ...int64) []int64 {
@@ -83,10 +89,33 @@ func (g *guard) list(values ...int64) []int64 {
 	return whole[:len(values)]
 }
 
+func (g *guard) rows(values ...[]int64) [][]int64 {
+	var whole, before [][]int64
+	for _, row := range values {
+		whole = append(whole, g.list(row...))
+		before = append(before, slices.Clone(row))
+	}
+	behind := lists(list(-74), list(-75))
+	whole = append(whole, behind...)
+	g.rowsNow = append(g.rowsNow, whole)
+	g.rowsBefore = append(g.rowsBefore, append(before, behind...))
+	return whole[:len(values)]
+}
+
+func (g *guard) category(c impl.Category) impl.Category {
+	return impl.Category{
+		Objects: c.Objects, From: g.list(c.From...), To: g.list(c.To...),
+		Identity: g.list(c.Identity...), Composites: g.rows(c.Composites...),
+	}
+}
+
 func (g *guard) check(t *testing.T, label, when string) {
 	t.Helper()
 	if !reflect.DeepEqual(g.now, g.before) {
 		t.Errorf("%s: an argument changed %s: %v is now %v", label, when, g.before, g.now)
+	}
+	if !reflect.DeepEqual(g.rowsNow, g.rowsBefore) {
+		t.Errorf("%s: an argument changed %s: %v is now %v", label, when, g.rowsBefore, g.rowsNow)
 	}
 }
 
