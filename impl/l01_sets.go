@@ -68,14 +68,17 @@ func partitionBy(labels []int64) partition {
 // class, and only the least one of the class leads to itself.
 type leaders []int64
 
-// newLeaders starts with each of n elements in a class of its own.
-func newLeaders(n int64) leaders {
-	l := make(leaders, n)
-	for x := range l {
-		l[x] = int64(x)
+// counting returns the numbers 0, 1, .., n - 1.
+func counting(n int64) []int64 {
+	numbers := make([]int64, n)
+	for i := range numbers {
+		numbers[i] = int64(i)
 	}
-	return l
+	return numbers
 }
+
+// newLeaders starts with each of n elements in a class of its own.
+func newLeaders(n int64) leaders { return counting(n) }
 
 func (l leaders) leader(x int64) int64 {
 	for l[x] != x {
