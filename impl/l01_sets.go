@@ -50,8 +50,8 @@ func (p partition) leasts() []int64 {
 }
 
 // partitionBy puts elements with equal labels into one class.
-func partitionBy(labels []int64) partition {
-	numbers := map[int64]int64{}
+func partitionBy[L comparable](labels []L) partition {
+	numbers := map[L]int64{}
 	p := make(partition, len(labels))
 	for x, label := range labels {
 		number, seen := numbers[label]
@@ -110,6 +110,15 @@ func (l leaders) classes() partition {
 	return partitionBy(labels)
 }
 
+// imagesOf returns the images of the numbers in a list.
+func imagesOf(list, images []int64) []int64 {
+	found := make([]int64, len(list))
+	for i, number := range list {
+		found[i] = images[number]
+	}
+	return found
+}
+
 func isSetSize(n int64) bool { return 0 <= n && n <= MaxSet }
 
 // checkMap returns the error that a function of n and f returns before those of its section.
@@ -161,11 +170,7 @@ func ThenMaps(n int64, f []int64, k int64, g []int64) ([]int64, int64) {
 	if !IsMap(n, f) || !IsMap(k, g) || int64(len(g)) != n {
 		return nil, ErrInvalid
 	}
-	composite := make([]int64, len(f))
-	for x, image := range f {
-		composite[x] = g[image]
-	}
-	return composite, ErrNone
+	return imagesOf(f, g), ErrNone
 }
 
 // ImageOf returns all images of elements under f, in ascending order, each once, and ErrNone.
@@ -248,11 +253,11 @@ func MeetPartitions(p []int64, q []int64) ([]int64, int64) {
 	if !areOnOneSet(p, q) {
 		return nil, ErrInvalid
 	}
-	labels := make([]int64, len(p))
+	both := make([]pairOf[int64, int64], len(p))
 	for x := range p {
-		labels[x] = p[x]*MaxSet + q[x]
+		both[x] = pairOf[int64, int64]{p[x], q[x]}
 	}
-	return partitionBy(labels), ErrNone
+	return partitionBy(both), ErrNone
 }
 
 // JoinPartitions returns the finest partition in which two elements are in one class if they are
