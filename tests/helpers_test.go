@@ -20,6 +20,8 @@ func one[A any](a A, code int64) result { return result{[]any{a}, code} }
 
 func two[A, B any](a A, b B, code int64) result { return result{[]any{a, b}, code} }
 
+func three[A, B, C any](a A, b B, c C, code int64) result { return result{[]any{a, b, c}, code} }
+
 func four[A, B, C, D any](a A, b B, c C, d D, code int64) result {
 	return result{[]any{a, b, c, d}, code}
 }
